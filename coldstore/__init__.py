@@ -1,0 +1,1 @@
+"""A cold store, whole."""
