@@ -39,7 +39,8 @@ def order(store, k, n):
     pairs = picked(store, k, n)
     answer = [len(pairs)]
     for number, taken in pairs:
-        store.lots[number].pallets -= taken
+        lot = store.lots[number]
+        lot.pallets -= taken
         answer.extend([number, taken])
     return answer
 
