@@ -22,11 +22,12 @@ def wants_cooling(chamber):
     return chamber.warmth > chamber.aim and chamber.thaw_hours == 0
 
 
-def cooling_chambers(store):
+def cooling_numbers(store):
+    """The numbers of the chambers whose turn it is to cool, once all have drifted."""
     if store.mains == 0:
         return []
     # One that frost keeps from cooling at all still takes its turn among these.
-    return [chamber for chamber in store.chambers if wants_cooling(chamber)][:store.most]
+    return [number for number, chamber in enumerate(store.chambers) if wants_cooling(chamber)][:store.most]
 
 
 def add_frost(chamber, more):
@@ -39,8 +40,11 @@ def leak_in(store):
 
 
 def cool_down(store):
-    for chamber in cooling_chambers(store):
-        chamber.warmth -= min(cooling_power(chamber), chamber.warmth - chamber.aim)
+    for number in cooling_numbers(store):
+        chamber = store.chambers[number]
+        colder = min(cooling_power(chamber), chamber.warmth - chamber.aim)
+        chamber.warmth -= colder
+        store.cooled += colder
         add_frost(chamber, COOLING_FROST)
 
 

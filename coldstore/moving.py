@@ -1,7 +1,8 @@
 """The calls that move pallets about and out: move, ship, order, throw."""
 
-from coldstore.refusals import ALREADY, CANNOT_BE, NO_ROOM, NOT_THERE, OUT_OF_RANGE, SPOILED
-from coldstore.rules import free_places, has_chamber, has_kind, has_lot, is_spoiled, pallets_in_line, picked
+from coldstore.lines import pick
+from coldstore.refusals import ALREADY, NO_ROOM, NOT_THERE, OUT_OF_RANGE, SPOILED
+from coldstore.rules import free_places, has_chamber, has_lot, is_spoiled
 
 
 def move(store, l, c):
@@ -17,6 +18,11 @@ def move(store, l, c):
     return [before]
 
 
+def send_out(store, lot, pallets):
+    lot.pallets -= pallets
+    store.went_out += pallets
+
+
 def ship(store, l, n):
     if not has_lot(store, l):
         return [NOT_THERE]
@@ -25,23 +31,16 @@ def ship(store, l, n):
         return [OUT_OF_RANGE]
     if is_spoiled(store, lot):
         return [SPOILED]
-    lot.pallets -= n
+    send_out(store, lot, n)
     return [lot.pallets]
 
 
 def order(store, k, n):
-    if not has_kind(store, k):
-        return [NOT_THERE]
-    if not 1 <= n <= 600:
-        return [OUT_OF_RANGE]
-    if pallets_in_line(store, k) < n:
-        return [CANNOT_BE]
-    pairs = picked(store, k, n)
-    answer = [len(pairs)]
-    for number, taken in pairs:
-        lot = store.lots[number]
-        lot.pallets -= taken
-        answer.extend([number, taken])
+    answer = pick(store, k, n)
+    if answer[0] < 0:
+        return answer
+    for place in range(1, len(answer), 2):
+        send_out(store, store.lots[answer[place]], answer[place + 1])
     return answer
 
 
@@ -49,6 +48,7 @@ def throw(store, l):
     if not has_lot(store, l):
         return [NOT_THERE]
     lot = store.lots[l]
-    thrown = lot.pallets
+    pallets = lot.pallets
     lot.pallets = 0
-    return [thrown]
+    store.thrown += pallets
+    return [pallets]

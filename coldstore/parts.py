@@ -43,3 +43,7 @@ class Store:
         self.kinds = []
         # Emptied lots stay here, for a lot's number is never given again.
         self.lots = []
+        self.came = 0
+        self.went_out = 0
+        self.thrown = 0
+        self.cooled = 0

@@ -17,9 +17,12 @@ def has_lot(store, number):
     return 0 <= number < len(store.lots) and store.lots[number].pallets > 0
 
 
+def pallets_inside(store, chamber_number):
+    return sum([lot.pallets for lot in store.lots if lot.chamber_number == chamber_number])
+
+
 def free_places(store, chamber_number):
-    taken = sum([lot.pallets for lot in store.lots if lot.chamber_number == chamber_number])
-    return store.chambers[chamber_number].places - taken
+    return store.chambers[chamber_number].places - pallets_inside(store, chamber_number)
 
 
 def is_spoiled(store, lot):
@@ -27,29 +30,11 @@ def is_spoiled(store, lot):
     return lot.harm > kind.bears or lot.age > kind.life
 
 
-def stands_in_line(store, lot, kind_number):
-    return lot.kind_number == kind_number and lot.pallets > 0 and not is_spoiled(store, lot)
+def spoiled_lots(store):
+    """The numbers of the lots with pallets that are spoiled."""
+    return [number for number, lot in enumerate(store.lots) if lot.pallets > 0 and is_spoiled(store, lot)]
 
 
-def line_of(store, kind_number):
-    """The numbers of the lots in the kind's line, the first to go out first."""
-    lots = store.lots
-    numbers = [number for number, lot in enumerate(lots) if stands_in_line(store, lot, kind_number)]
-    return sorted(numbers, key=lambda number: (-lots[number].age, -lots[number].harm, number))
-
-
-def pallets_in_line(store, kind_number):
-    return sum([store.lots[number].pallets for number in line_of(store, kind_number)])
-
-
-def picked(store, kind_number, wanted):
-    """A pair for each lot that is picked from: its number, how many pallets."""
-    pairs = []
-    missing = wanted
-    for number in line_of(store, kind_number):
-        if missing == 0:
-            break
-        taken = min(missing, store.lots[number].pallets)
-        pairs.append((number, taken))
-        missing -= taken
-    return pairs
+def counted(numbers):
+    """The answer that tells how many there are, then these."""
+    return [len(numbers)] + numbers

@@ -43,4 +43,5 @@ def receive(store, k, n, core, c):
     if len(store.lots) == MOST_LOTS or free_places(store, c) < n:
         return [NO_ROOM]
     store.lots.append(Lot(k, n, core, c))
+    store.came += n
     return [len(store.lots) - 1]

@@ -53,6 +53,43 @@ class Form(unittest.TestCase):
                 self.assertRegex(node.module, r"\Acoldstore\.", name)
                 self.assertNotIn("*", [alias.name for alias in node.names], name)
 
+    def test_no_two_files_draw_from_one_another(self):
+        drawn = {f"coldstore.{path.stem}": set() for path in FILES}
+        for path in FILES:
+            for node in ast.walk(ast.parse(path.read_text())):
+                if isinstance(node, ast.ImportFrom):
+                    drawn[f"coldstore.{path.stem}"].add(node.module)
+        while drawn:
+            ready = [name for name, others in drawn.items() if not others & set(drawn)]
+            self.assertTrue(ready, drawn)
+            for name in ready:
+                drawn.pop(name)
+
+    def test_the_top_of_a_file_holds_plain_values_alone(self):
+        for path in FILES:
+            for node in ast.parse(path.read_text()).body[1:]:
+                self.assertIsInstance(node, (ast.ImportFrom, ast.FunctionDef, ast.ClassDef, ast.Assign), path)
+                if isinstance(node, ast.Assign):
+                    ast.literal_eval(node.value)
+
+    def test_values_are_given_through_a_local_name(self):
+        for name, node in nodes():
+            if isinstance(node, ast.Attribute) and isinstance(node.ctx, ast.Store):
+                self.assertIsInstance(node.value, ast.Name, name)
+
+    def test_no_local_is_called_like_a_class_or_an_import(self):
+        for path in FILES:
+            tree = ast.parse(path.read_text())
+            taken = {node.name for node in tree.body if isinstance(node, ast.ClassDef)}
+            for node in tree.body:
+                if isinstance(node, ast.ImportFrom):
+                    taken |= {alias.name for alias in node.names}
+            for node in ast.walk(tree):
+                if isinstance(node, ast.Name) and isinstance(node.ctx, ast.Store):
+                    self.assertNotIn(node.id, taken, path)
+                if isinstance(node, ast.arg):
+                    self.assertNotIn(node.arg, taken, path)
+
     def test_no_function_is_long(self):
         for name, node in nodes():
             if isinstance(node, ast.FunctionDef):
